@@ -1,0 +1,1 @@
+"""Least above, greatest below: small orders and lattices. The functions are in joinmeet.orders."""

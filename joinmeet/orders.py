@@ -1,0 +1,142 @@
+"""Orders of at most eight things: of which kind one is, and its tables.
+
+A row up has for each thing a the set of those above a, and a set of things is
+a number: the sum of 2 to the b over its things b.
+"""
+
+MOST_THINGS = 8
+REFUSAL = -1
+NO_THING = -1
+
+
+def is_refused(n, up):
+    return n < 1 or n > MOST_THINGS or len(up) != n
+
+
+def has(things, a):
+    return (things >> a) & 1 == 1
+
+
+def has_all(things, others):
+    return things & others == others
+
+
+def is_order(n, up):
+    for a in range(n):
+        if up[a] >> n != 0 or not has(up[a], a):
+            return False
+    for a in range(n):
+        for b in range(n):
+            if a != b and has(up[a], b) and not fits_above(up, a, b):
+                return False
+    return True
+
+
+def fits_above(up, a, b):
+    """Tell whether b, another thing than a and above it, is so as an order asks."""
+    return not has(up[b], a) and has_all(up[a], up[b])
+
+
+def turned(n, up):
+    """Give the row of the same order upside down: the sets of those below."""
+    down = []
+    for a in range(n):
+        down.append(sum([1 << b for b in range(n) if has(up[b], a)]))
+    return down
+
+
+def least_of(n, up, things):
+    """Find the one of the things that all of them are above, if there is one."""
+    for a in range(n):
+        if has(things, a) and has_all(up[a], things):
+            return a
+    return NO_THING
+
+
+def join_table(n, up):
+    joins = []
+    for a in range(n):
+        joins.append([least_of(n, up, up[a] & up[b]) for b in range(n)])
+    return joins
+
+
+def meet_table(n, up):
+    # Upside down, the greatest below both is the least above both.
+    return join_table(n, turned(n, up))
+
+
+def is_lattice(meets, joins):
+    for row in meets + joins:
+        if NO_THING in row:
+            return False
+    return True
+
+
+def is_modular(n, up, meets, joins):
+    for a in range(n):
+        for b in range(n):
+            for c in range(n):
+                if has(up[a], c) and joins[a][meets[b][c]] != meets[c][joins[a][b]]:
+                    return False
+    return True
+
+
+def is_distributive(n, meets, joins):
+    for a in range(n):
+        for b in range(n):
+            for c in range(n):
+                if meets[a][joins[b][c]] != joins[meets[a][b]][meets[a][c]]:
+                    return False
+    return True
+
+
+def over_all(n, table):
+    """Give the join of all things, or by the other table their meet."""
+    found = 0
+    for a in range(n):
+        found = table[found][a]
+    return found
+
+
+def is_complemented(n, meets, joins):
+    bottom = over_all(n, meets)
+    top = over_all(n, joins)
+    for a in range(n):
+        if not any([joins[a][b] == top and meets[a][b] == bottom for b in range(n)]):
+            return False
+    return True
+
+
+def kind(n, up):
+    """Tell what up is: 0 no order, 1 an order, 2 a lattice, 3 modular, 4 distributive, 5 complemented too."""
+    if is_refused(n, up):
+        return [REFUSAL]
+    if not is_order(n, up):
+        return [0]
+    meets = meet_table(n, up)
+    joins = join_table(n, up)
+    if not is_lattice(meets, joins):
+        return [1]
+    if not is_modular(n, up, meets, joins):
+        return [2]
+    if not is_distributive(n, meets, joins):
+        return [3]
+    if not is_complemented(n, meets, joins):
+        return [4]
+    return [5]
+
+
+def tables(n, up):
+    """Give 1, then all the meets and all the joins; 0 where up is no lattice."""
+    if is_refused(n, up):
+        return [REFUSAL]
+    if not is_order(n, up):
+        return [0]
+    meets = meet_table(n, up)
+    joins = join_table(n, up)
+    if not is_lattice(meets, joins):
+        return [0]
+    answer = [1]
+    for row in meets + joins:
+        answer.extend(row)
+    return answer
