@@ -99,7 +99,7 @@ class Refusals(unittest.TestCase):
 
 
 class AgainstTheWords(unittest.TestCase):
-    def test_all_rows_of_up_to_three_things(self):
+    def test_rows_of_up_to_three_things_with_numbers_just_past_the_edge(self):
         for n in (1, 2, 3):
             for up in itertools.product(range(2 ** n + 2), repeat=n):
                 self.assertEqual(kind(n, list(up)), [lattices.told_kind(n, up)], up)

@@ -92,7 +92,7 @@ class AgainstTheWords(unittest.TestCase):
         two = list(itertools.product(range(n), repeat=2))
         return [1] + [found[0][pair] for pair in two] + [found[1][pair] for pair in two]
 
-    def test_all_rows_of_up_to_three_things(self):
+    def test_rows_of_up_to_three_things_with_numbers_just_past_the_edge(self):
         for n in (1, 2, 3):
             for up in itertools.product(range(2 ** n + 2), repeat=n):
                 self.assertEqual(tables(n, list(up)), self.told(n, up), up)
