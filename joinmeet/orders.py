@@ -1,4 +1,4 @@
-"""Orders of at most eight things: of which kind one is, and its tables.
+"""Orders of at most eight things: of which kind one is and why, its tables, its primes.
 
 A row up has for each thing a the set of those above a, and a set of things is
 a number: the sum of 2 to the b over its things b.
@@ -72,6 +72,15 @@ def is_lattice(meets, joins):
     return True
 
 
+def find_tables(n, up):
+    """Give the meets and the joins, or None where up is no lattice of n things."""
+    if is_refused(n, up) or not is_order(n, up):
+        return None
+    meets = meet_table(n, up)
+    joins = join_table(n, up)
+    return (meets, joins) if is_lattice(meets, joins) else None
+
+
 def is_modular(n, up, meets, joins):
     for a in range(n):
         for b in range(n):
@@ -113,10 +122,11 @@ def kind(n, up):
         return [REFUSAL]
     if not is_order(n, up):
         return [0]
-    meets = meet_table(n, up)
-    joins = join_table(n, up)
-    if not is_lattice(meets, joins):
+    found = find_tables(n, up)
+    if found is None:
         return [1]
+    meets = found[0]
+    joins = found[1]
     if not is_modular(n, up, meets, joins):
         return [2]
     if not is_distributive(n, meets, joins):
@@ -130,13 +140,70 @@ def tables(n, up):
     """Give 1, then all the meets and all the joins; 0 where up is no lattice."""
     if is_refused(n, up):
         return [REFUSAL]
-    if not is_order(n, up):
-        return [0]
-    meets = meet_table(n, up)
-    joins = join_table(n, up)
-    if not is_lattice(meets, joins):
+    found = find_tables(n, up)
+    if found is None:
         return [0]
     answer = [1]
-    for row in meets + joins:
+    for row in found[0] + found[1]:
         answer.extend(row)
     return answer
+
+
+def first_not_modular(n, up, meets, joins):
+    """Find the first a, c, b by which it's seen that a lattice isn't modular; none where it is."""
+    for a in range(n):
+        for c in range(n):
+            if a == c or not has(up[a], c):
+                continue
+            for b in range(n):
+                if joins[a][b] == joins[c][b] and meets[a][b] == meets[c][b]:
+                    return [a, c, b]
+    return []
+
+
+def all_alike(table, a, b, c):
+    return table[a][b] == table[a][c] and table[a][b] == table[b][c]
+
+
+def first_not_distributive(n, meets, joins):
+    """Find the first three by which it's seen that a modular lattice isn't distributive; none where it is."""
+    # What's asked of the three doesn't hang on their order, so the first of them are in rising order.
+    for a in range(n):
+        for b in range(a + 1, n):
+            for c in range(b + 1, n):
+                if all_alike(joins, a, b, c) and all_alike(meets, a, b, c):
+                    return [a, b, c]
+    return []
+
+
+def why(n, up):
+    """Give 0 for a distributive lattice; else 1 or 2 and the three things by which it's seen that it's none."""
+    found = find_tables(n, up)
+    if found is None:
+        return [REFUSAL]
+    meets = found[0]
+    joins = found[1]
+    if not is_modular(n, up, meets, joins):
+        return [1] + first_not_modular(n, up, meets, joins)
+    if not is_distributive(n, meets, joins):
+        return [2] + first_not_distributive(n, meets, joins)
+    return [0]
+
+
+def is_prime(n, joins, a):
+    """Tell whether a, another thing than the one below all, is the join only of itself and others."""
+    others = [b for b in range(n) if b != a]
+    for b in others:
+        for c in others:
+            if joins[b][c] == a:
+                return False
+    return True
+
+
+def primes(n, up):
+    """Give the set of the primes of a lattice."""
+    found = find_tables(n, up)
+    if found is None:
+        return [REFUSAL]
+    bottom = over_all(n, found[0])
+    return [sum([1 << a for a in range(n) if a != bottom and is_prime(n, found[1], a)])]

@@ -7,6 +7,15 @@ DIAMOND = [31, 18, 20, 24, 16]
 CUBE = [255, 170, 204, 136, 240, 160, 192, 128]
 CHAIN_8 = [255, 254, 252, 248, 240, 224, 192, 128]
 
+# 3 and 4 are above both 1 and 2, and neither of them is the least: an order and no lattice.
+CROSSED = [63, 58, 60, 40, 48, 32]
+# First what is no order, then what is one.
+NO_LATTICES = [
+    (1, [0]), (1, [2]), (1, [3]), (2, [3, 3]), (2, [2, 2]), (2, [3, 6]), (3, [3, 6, 4]), (3, [7, 6, 12]),
+    (8, [0] * 8), (8, [255] * 8), (8, [65535] * 8), (8, CUBE[:7] + [128 + 256]),
+    (2, [1, 2]), (3, [5, 6, 4]), (3, [7, 2, 4]), (6, CROSSED), (8, [1 << a for a in range(8)]),
+]
+
 SMALLEST = -2147483648
 LARGEST = 2147483647
 
@@ -83,6 +92,42 @@ def told_kind(n, up):
     if all(any(above_all(join[a, b]) and below_all(meet[a, b]) for b in things) for a in things):
         return 5
     return 4
+
+
+def told_why(n, up):
+    found = told_tables(n, up)
+    if found is None:
+        return [-1]
+    meet, join = found
+    above = pairs(n, up)
+    answer = {2: 1, 3: 2}.get(told_kind(n, up), 0)
+    if answer == 0:
+        return [0]
+
+    def fits(x, y, z):
+        if answer == 1:
+            return x != y and (x, y) in above and join[x, z] == join[y, z] and meet[x, z] == meet[y, z]
+        two = [(x, y), (x, z), (y, z)]
+        return len({x, y, z}) == 3 and all(len({table[pair] for pair in two}) == 1 for table in (meet, join))
+
+    three = [(x, y, z) for x in range(n) for y in range(n) for z in range(n)]
+    return [answer, *min(choice for choice in three if fits(*choice))]
+
+
+def told_primes(n, up):
+    found = told_tables(n, up)
+    if found is None:
+        return [-1]
+    join = found[1]
+    above = pairs(n, up)
+    below_all = [x for x in range(n) if all((x, y) in above for y in range(n))]
+    prime = {x for x in range(n) if x not in below_all and all(x in two for two, y in join.items() if x == y)}
+    return [sum(2 ** x for x in prime)]
+
+
+def lattice_rows(n):
+    """All lattices of n things among the bounded rows."""
+    return [up for up in bounded_rows(n) if told_tables(n, up) is not None]
 
 
 def bounded_rows(n):

@@ -8,9 +8,14 @@ from joinmeet import orders
 
 import lattices
 
-CALLS = {"kind": ["n", "up"], "tables": ["n", "up"]}
+CALLS = {
+    "kind": ["n", "up"],
+    "tables": ["n", "up"],
+    "why": ["n", "up"],
+    "primes": ["n", "up"],
+}
 
-INPUTS = [
+ROWS = [
     (1, [1]),
     (1, [0]),
     (2, [1, 2]),
@@ -29,6 +34,23 @@ INPUTS = [
 ]
 
 
+def inputs(name):
+    """Arguments for the function, new lists each time."""
+    return [[{"n": n, "up": list(up)}[argument] for argument in CALLS[name]] for n, up in ROWS]
+
+
+def lists_in(arguments, kind_of_list):
+    return [kind_of_list(value) if isinstance(value, list) else value for value in arguments]
+
+
+class Watched(list):
+    def refuse(self, *others):
+        raise AssertionError("what was handed in is changed")
+
+    __setitem__ = __delitem__ = __iadd__ = __imul__ = refuse
+    append = extend = insert = pop = remove = clear = sort = reverse = refuse
+
+
 class EveryCall(unittest.TestCase):
     def test_names_and_arguments(self):
         for name, arguments in CALLS.items():
@@ -36,47 +58,45 @@ class EveryCall(unittest.TestCase):
 
     def test_answers_are_lists_of_ints(self):
         for name in CALLS:
-            for n, up in INPUTS:
-                answer = getattr(orders, name)(n, list(up))
+            for arguments in inputs(name):
+                answer = getattr(orders, name)(*arguments)
                 self.assertIs(type(answer), list)
                 self.assertEqual({type(number) for number in answer}, {int})
 
-    def test_the_list_handed_in_stays_as_it_was(self):
+    def test_the_lists_handed_in_stay_as_they_were(self):
         for name in CALLS:
-            for n, up in INPUTS:
-                handed = list(up)
-                getattr(orders, name)(n, handed)
-                self.assertEqual(handed, up)
+            for arguments, copies in zip(inputs(name), inputs(name)):
+                getattr(orders, name)(*arguments)
+                self.assertEqual(arguments, copies)
 
-    def test_the_list_handed_in_is_not_changed_for_a_while_either(self):
-        class Watched(list):
-            def refuse(self, *others):
-                raise AssertionError("what was handed in is changed")
-
-            __setitem__ = __delitem__ = __iadd__ = __imul__ = refuse
-            append = extend = insert = pop = remove = clear = sort = reverse = refuse
-
+    def test_the_lists_handed_in_are_not_changed_for_a_while_either(self):
         for name in CALLS:
-            for n, up in INPUTS:
-                getattr(orders, name)(n, Watched(up))
+            for arguments in inputs(name):
+                getattr(orders, name)(*lists_in(arguments, Watched))
+
+    def test_an_answer_is_no_list_that_was_handed_in(self):
+        for name in CALLS:
+            for arguments in inputs(name):
+                answer = getattr(orders, name)(*arguments)
+                self.assertFalse(any(answer is value for value in arguments))
 
     def test_a_second_call_answers_the_same(self):
         for name in CALLS:
             call = getattr(orders, name)
-            first = [call(n, list(up)) for n, up in INPUTS]
+            first = [call(*arguments) for arguments in inputs(name)]
             copies = [list(answer) for answer in first]
             for answer in first:
                 # An answer that was kept would show this the next time.
                 answer.append(99)
-            self.assertEqual([call(n, list(up)) for n, up in INPUTS], copies)
-            self.assertEqual([call(n, list(up)) for n, up in reversed(INPUTS)], copies[::-1])
+            self.assertEqual([call(*arguments) for arguments in inputs(name)], copies)
+            self.assertEqual([call(*arguments) for arguments in reversed(inputs(name))], copies[::-1])
 
     def test_nothing_is_printed(self):
         out = io.StringIO()
         with contextlib.redirect_stdout(out), contextlib.redirect_stderr(out):
             for name in CALLS:
-                for n, up in INPUTS:
-                    getattr(orders, name)(n, list(up))
+                for arguments in inputs(name):
+                    getattr(orders, name)(*arguments)
         self.assertEqual(out.getvalue(), "")
 
 
