@@ -1,4 +1,4 @@
-"""Orders of at most eight things: of which kind one is and why, its tables, its primes.
+"""Orders of at most eight things: of which kind one is and why, its tables, primes and sets, what falls together.
 
 A row up has for each thing a the set of those above a, and a set of things is
 a number: the sum of 2 to the b over its things b.
@@ -11,6 +11,10 @@ NO_THING = -1
 
 def is_refused(n, up):
     return n < 1 or n > MOST_THINGS or len(up) != n
+
+
+def is_thing(n, a):
+    return 0 <= a and a < n
 
 
 def has(things, a):
@@ -207,3 +211,62 @@ def primes(n, up):
         return [REFUSAL]
     bottom = over_all(n, found[0])
     return [sum([1 << a for a in range(n) if a != bottom and is_prime(n, found[1], a)])]
+
+
+def is_closed_downwards(n, down, things):
+    for a in range(n):
+        if has(things, a) and not has_all(things, down[a]):
+            return False
+    return True
+
+
+def above_all_of(n, up, things):
+    """Give the set of what's above all of the things, or by the row upside down of what's below."""
+    found = (1 << n) - 1
+    for a in range(n):
+        if has(things, a):
+            found = found & up[a]
+    return found
+
+
+def is_cut(n, up, down, things):
+    return above_all_of(n, down, above_all_of(n, up, things)) == things
+
+
+def sets(n, z, i, up):
+    """Count the sets that are closed downwards, or the cuts where z isn't 0, and give the one behind i smaller ones."""
+    if is_refused(n, up) or not is_order(n, up) or i < 0:
+        return [REFUSAL]
+    down = turned(n, up)
+    if z == 0:
+        found = [things for things in range(1 << n) if is_closed_downwards(n, down, things)]
+    else:
+        found = [things for things in range(1 << n) if is_cut(n, up, down, things)]
+    return [len(found)] + found[i:i + 1]
+
+
+def fall_together(n, both_tables, a, b):
+    """Give of each thing the least that it falls together with, if a and b do."""
+    least = list(range(n))
+    to_do = [(a, b)]
+    while len(to_do) > 0:
+        pair = to_do.pop()
+        low = min(least[pair[0]], least[pair[1]])
+        high = max(least[pair[0]], least[pair[1]])
+        if low == high:
+            continue
+        least = [low if x == high else x for x in least]
+        # Each table's row has the joins, or the meets, with every third thing.
+        for table in both_tables:
+            to_do.extend(list(zip(table[pair[0]], table[pair[1]])))
+    return least
+
+
+def falls(n, a, b, up):
+    """Count the things that are left if a and b fall together, and tell what falls together."""
+    found = find_tables(n, up)
+    if found is None or not is_thing(n, a) or not is_thing(n, b):
+        return [REFUSAL]
+    least = fall_together(n, found, a, b)
+    left = [x for x in range(n) if least[x] == x]
+    return [len(left)] + least

@@ -125,6 +125,52 @@ def told_primes(n, up):
     return [sum(2 ** x for x in prime)]
 
 
+def told_sets(n, z, up):
+    """All the sets that are closed downwards or are cuts, as numbers in rising order, or None where up is no order."""
+    if not told_order(n, up):
+        return None
+    above = pairs(n, up)
+    things = range(n)
+
+    def closed(chosen):
+        return all(x in chosen for x, y in above if y in chosen)
+
+    def cut(chosen):
+        bounds = {y for y in things if all((x, y) in above for x in chosen)}
+        return chosen == {x for x in things if all((x, y) in above for y in bounds)}
+
+    fits = cut if z else closed
+    choices = [{x for x in things if number >> x & 1} for number in range(2 ** n)]
+    return sorted(sum(2 ** x for x in chosen) for chosen in choices if fits(chosen))
+
+
+def groupings(n):
+    """All rows that tell of each of n things the least of the group that it's in."""
+    rows = [[]]
+    for x in range(n):
+        rows = [row + [y] for row in rows for y in sorted(set(row)) + [x]]
+    return rows
+
+
+def told_groupings(n, up):
+    """All that may fall together in a lattice, whatever does."""
+    meet, join = told_tables(n, up)
+
+    def fits(row):
+        return all(row[table[x, z]] == row[table[row[x], z]] for x in range(n) for z in range(n)
+                   for table in (meet, join))
+
+    return [row for row in groupings(n) if fits(row)]
+
+
+def told_falls(n, a, b, allowed):
+    """Of the allowed groupings that put a and b together the one that puts the least together."""
+    fitting = [row for row in allowed if row[a] == row[b]]
+    row = [min(y for y in range(n) if all(other[x] == other[y] for other in fitting)) for x in range(n)]
+    assert row in fitting
+    return [len(set(row))] + row
+
+
 def lattice_rows(n):
     """All lattices of n things among the bounded rows."""
     return [up for up in bounded_rows(n) if told_tables(n, up) is not None]

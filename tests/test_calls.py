@@ -2,6 +2,7 @@
 import contextlib
 import inspect
 import io
+import itertools
 import unittest
 
 from joinmeet import orders
@@ -13,6 +14,8 @@ CALLS = {
     "tables": ["n", "up"],
     "why": ["n", "up"],
     "primes": ["n", "up"],
+    "sets": ["n", "z", "i", "up"],
+    "falls": ["n", "a", "b", "up"],
 }
 
 ROWS = [
@@ -34,9 +37,22 @@ ROWS = [
 ]
 
 
+OTHERS = {
+    "z": [0, 1, lattices.SMALLEST],
+    "i": [0, 2, lattices.LARGEST, -1],
+    "a": [0, 1, 4, -1],
+    "b": [0, 2, 4, lattices.LARGEST],
+}
+
+
 def inputs(name):
     """Arguments for the function, new lists each time."""
-    return [[{"n": n, "up": list(up)}[argument] for argument in CALLS[name]] for n, up in ROWS]
+    found = []
+    for n, up in ROWS:
+        choices = {"n": [n], "up": [up], **OTHERS}
+        for values in itertools.product(*[choices[argument] for argument in CALLS[name]]):
+            found.append(lists_in(values, list))
+    return found
 
 
 def lists_in(arguments, kind_of_list):
