@@ -1,11 +1,15 @@
-"""Orders of at most eight things: of which kind one is and why, its tables, primes and sets, what falls together.
+"""Orders of at most eight things, lattices above all.
 
-A row up has for each thing a the set of those above a, and a set of things is
-a number: the sum of 2 to the b over its things b.
+Of which kind one is, and why no better; its tables, primes, sets closed downwards and cuts; what falls together;
+ways up; what a map leaves in its place.
+
+A row up has for each thing a the set of those above a, and a set of things is a number: the sum of 2 to the b over
+its things b.
 """
 
 MOST_THINGS = 8
 REFUSAL = -1
+NOT_ABOVE = -2
 NO_THING = -1
 
 
@@ -270,3 +274,65 @@ def falls(n, a, b, up):
     least = fall_together(n, found, a, b)
     left = [x for x in range(n) if least[x] == x]
     return [len(left)] + least
+
+
+def is_step(up, down, a, b):
+    """Tell whether b is above a, another thing than a, and none is between them."""
+    return a != b and up[a] & down[b] == (1 << a) + (1 << b)
+
+
+def one_step_up(n, up, down, things):
+    """Give the set of what's one step above some of the things."""
+    found = 0
+    for a in range(n):
+        if has(things, a):
+            found = found | sum([1 << b for b in range(n) if is_step(up, down, a, b)])
+    return found
+
+
+def step_counts(n, up, a, b):
+    """Give how many steps the ways from a up to b have, in rising order."""
+    down = turned(n, up)
+    counts = []
+    steps = 0
+    reached = 1 << a
+    while reached != 0:
+        if has(reached, b):
+            counts.append(steps)
+        reached = one_step_up(n, up, down, reached)
+        steps = steps + 1
+    return counts
+
+
+def ways(n, a, b, up):
+    """Give the fewest and the most steps of the ways from a up to b."""
+    if is_refused(n, up) or not is_order(n, up) or not is_thing(n, a) or not is_thing(n, b):
+        return [REFUSAL]
+    if not has(up[a], b):
+        return [NOT_ABOVE]
+    counts = step_counts(n, up, a, b)
+    return [counts[0], counts[-1]]
+
+
+def keeps_above(n, up, the_map):
+    """Tell whether the map takes what's above a thing to what's above where that is taken."""
+    for a in range(n):
+        for b in range(n):
+            if has(up[a], b) and not has(up[the_map[a]], the_map[b]):
+                return False
+    return True
+
+
+def is_fitting_map(n, up, the_map):
+    if len(the_map) != n or not all([is_thing(n, b) for b in the_map]):
+        return False
+    return keeps_above(n, up, the_map)
+
+
+def fixed(n, up, the_map):
+    """Give the one below all and the one above all of the things that the map takes to themselves."""
+    if find_tables(n, up) is None or not is_fitting_map(n, up, the_map):
+        return [REFUSAL]
+    # In a lattice such a map leaves something in its place, and of what it leaves there one is below and one above all.
+    kept = sum([1 << a for a in range(n) if the_map[a] == a])
+    return [least_of(n, up, kept), least_of(n, turned(n, up), kept)]

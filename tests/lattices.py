@@ -171,6 +171,31 @@ def told_falls(n, a, b, allowed):
     return [len(set(row))] + row
 
 
+def told_ways(n, a, b, up):
+    """The steps of each way from a up to b, where up is an order."""
+    above = {(x, y) for x, y in pairs(n, up) if x != y}
+    steps = {(x, y) for x, y in above if not any((x, z) in above and (z, y) in above for z in range(n))}
+    found = []
+    begun = [[a]]
+    while begun:
+        way = begun.pop()
+        if way[-1] == b:
+            found.append(len(way) - 1)
+        begun.extend(way + [y] for x, y in steps if x == way[-1])
+    return found
+
+
+def told_fixed(n, up, the_map):
+    """Where up is a lattice and the map has n numbers."""
+    above = pairs(n, up)
+    if any(x >= n for x in the_map) or any((the_map[x], the_map[y]) not in above for x, y in above):
+        return [-1]
+    kept = {x for x in range(n) if the_map[x] == x}
+    below_all = [x for x in kept if all((x, y) in above for y in kept)]
+    above_all = [x for x in kept if all((y, x) in above for y in kept)]
+    return below_all + above_all
+
+
 def lattice_rows(n):
     """All lattices of n things among the bounded rows."""
     return [up for up in bounded_rows(n) if told_tables(n, up) is not None]

@@ -16,6 +16,8 @@ CALLS = {
     "primes": ["n", "up"],
     "sets": ["n", "z", "i", "up"],
     "falls": ["n", "a", "b", "up"],
+    "ways": ["n", "a", "b", "up"],
+    "fixed": ["n", "up", "the_map"],
 }
 
 ROWS = [
@@ -42,6 +44,7 @@ OTHERS = {
     "i": [0, 2, lattices.LARGEST, -1],
     "a": [0, 1, 4, -1],
     "b": [0, 2, 4, lattices.LARGEST],
+    "the_map": [[], [0], [0, 0, 0], [0, 2, 2], [0, 1, 2, 3, 4], [4, 4, 4, 4, 4], [7] * 8, [65535] * 8, [0] * 20],
 }
 
 
